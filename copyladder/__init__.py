@@ -1,0 +1,1 @@
+"""Copies of one text brought together."""
