@@ -1,6 +1,8 @@
 """One gathering of copies, and the calls on it. Each call gives back the list of numbers it answers."""
 
-from copyladder.places import are_readings, find_places, words_chosen
+from copyladder.changes import first_clash, shared_sets
+from copyladder.places import are_readings, find_places, places_alike, readings_of, words_chosen
+from copyladder.stories import cheapest_stories
 from copyladder.ways import Costs, find_way, way_cost
 
 WRONG = -1
@@ -8,6 +10,7 @@ FULL = -5
 MISSING = -6
 
 MOST_COPIES = 8
+MOST_FOR_STORIES = 5
 MOST_WORDS = 60
 GREATEST_WORD = 99999
 GREATEST_COST = 100
@@ -37,6 +40,14 @@ def place_numbers(place):
         numbers.append(len(holders))
         numbers.extend(holders)
     return numbers
+
+
+# What shared answers of whether two sets clash.
+def clash_numbers(sets):
+    two = first_clash(sets)
+    if two is None:
+        return [0]
+    return [1, two[0], two[1]]
 
 
 class Gathering:
@@ -95,3 +106,45 @@ class Gathering:
             return [WRONG]
         words = words_chosen(self.copies[u], places, readings)
         return [len(words)] + words
+
+    def own(self, u, w):
+        if not (self.has_copy(u) and self.has_copy(w)):
+            return [MISSING]
+        places = self.places_of(u)
+        return [len(places)] + readings_of(places, w)
+
+    def most(self, u):
+        if not self.has_copy(u):
+            return [MISSING]
+        places = self.places_of(u)
+        readings = [place.most_held() for place in places]
+        words = words_chosen(self.copies[u], places, readings)
+        return [len(words)] + words + readings
+
+    def agree(self, u):
+        if not self.has_copy(u):
+            return [MISSING]
+        places = self.places_of(u)
+        numbers = [len(places)]
+        for v in range(len(self.copies)):
+            numbers.extend([places_alike(places, v, w) for w in range(len(self.copies))])
+        return numbers
+
+    def stories(self):
+        if not self.copies:
+            return [MISSING]
+        if len(self.copies) > MOST_FOR_STORIES:
+            return [FULL]
+        cheapest = cheapest_stories(self.copies, self.costs)
+        return [cheapest[0], cheapest[1]] + cheapest[2]
+
+    def shared(self, u):
+        if not self.has_copy(u):
+            return [MISSING]
+        sets = shared_sets(self.places_of(u))
+        numbers = [len(sets)]
+        for holders, times in sets.items():
+            numbers.append(len(holders))
+            numbers.extend(holders)
+            numbers.append(times)
+        return numbers + clash_numbers(list(sets))

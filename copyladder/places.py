@@ -16,6 +16,11 @@ class Place:
     def holders(self, number):
         return [v for v in range(len(self.by_copy)) if self.by_copy[v] == number]
 
+    # The number of the reading that most copies have, of as many the first.
+    def most_held(self):
+        counts = [self.by_copy.count(number) for number in range(len(self.readings))]
+        return counts.index(max(counts))
+
 
 # What a copy has in each slot of the base, by the way from the base to it.
 # The slot with number 2 * i is ahead of the base's word i (the last one behind all words),
@@ -95,3 +100,13 @@ def words_chosen(base, places, numbers):
         at = place.before + place.held
     words.extend(base[at:])
     return words
+
+
+# The number of a copy's reading in each place.
+def readings_of(places, w):
+    return [place.by_copy[w] for place in places]
+
+
+# In how many places two copies have the same reading.
+def places_alike(places, v, w):
+    return len([place for place in places if place.by_copy[v] == place.by_copy[w]])

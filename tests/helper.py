@@ -27,6 +27,25 @@ def chosen(u, *readings):
     return [5, u, len(readings), *readings]
 
 
+def own(u, w):
+    return [6, u, w]
+
+
+def most(u):
+    return [7, u]
+
+
+def agree(u):
+    return [8, u]
+
+
+STORIES = [9]
+
+
+def shared(u):
+    return [10, u]
+
+
 def copies(*rows):
     return [copy(*row) for row in rows]
 
@@ -98,3 +117,37 @@ def places_told(numbers):
         found.append((before, held, readings))
     assert not rest, numbers
     return found
+
+
+# Gatherings that tests of several calls go through, each under each of the costs.
+GATHERINGS = (
+    ([1, 2, 3],),
+    ([],),
+    ([4, 5], [4, 5], [4, 5]),
+    ([], [1, 2], [], [1, 2], [1]),
+    ([1, 2, 3], [2, 3, 1], [3, 1, 2], [1, 3]),
+    ([1, 1, 2], [1, 2, 2], [2, 1], [], [2, 2, 1, 1]),
+    ([1, 2, 3, 4], [1, 9, 3], [7, 1, 9, 3, 4], [4, 3, 2, 1], []),
+    ([1, 2, 3, 4], [5, 2, 3, 4], [5, 6, 3, 4], [1, 6, 7, 4], [1, 2, 7, 8], [5, 6, 7, 8]),
+    ([1, 2, 1, 2, 1], [2, 1, 2], [1, 1, 1, 2, 2, 2], [3, 3], [1, 2, 1, 2, 1]),
+    (list(range(1, 61)), list(range(2, 62)), list(range(60, 0, -1)), [7] * 60, list(range(1, 61, 2)),
+     [k % 5 + 1 for k in range(60)], [k * k % 11 + 1 for k in range(55)], [99999]),
+    tuple([k + 1 if k % 5 < 2 or (k + v) % 3 else 1000 + k for k in range(60)] for v in (0, 1, 2, 3, 4, 5, 6, 0)),
+)
+COSTS = ((2, 2, 2), (100, 1, 1), (1, 100, 100), (3, 2, 1), (3, 1, 2))
+
+
+def each_base():
+    """Each gathering with each base and each three costs, with the calls that make it ahead."""
+    for rows in GATHERINGS:
+        # Long copies take long: fewer costs for them.
+        for three in COSTS[::2] if len(rows[0]) == 60 else COSTS:
+            for u in range(len(rows)):
+                yield u, rows, [costs(*three)] + copies(*rows)
+
+
+def number_of(place, v):
+    """The number of the reading that this copy has in a place of places_told; it has just one."""
+    found = [number for number, (words, holders) in enumerate(place[2]) if v in holders]
+    assert len(found) == 1, place
+    return found[0]

@@ -2,7 +2,7 @@
 
 import unittest
 
-from helper import GREATEST, apparatus, ask, chosen, copies, copy, costs, last, places_told
+from helper import GREATEST, apparatus, ask, chosen, copies, copy, each_base, last, number_of, places_told
 
 
 class Ordinary(unittest.TestCase):
@@ -61,32 +61,11 @@ class Edges(unittest.TestCase):
 
 
 class EveryCopyAgain(unittest.TestCase):
-    GATHERINGS = (
-        ([1, 2, 3, 4], [1, 9, 3], [7, 1, 9, 3, 4], [4, 3, 2, 1], []),
-        ([1, 2, 1, 2, 1], [2, 1, 2], [1, 1, 1, 2, 2, 2], [3, 3], [1, 2, 1, 2, 1]),
-        (list(range(1, 61)), list(range(2, 62)), list(range(60, 0, -1)), [7] * 60, list(range(1, 61, 2)),
-         [k % 5 + 1 for k in range(60)], [k * k % 11 + 1 for k in range(55)], [99999]),
-    )
-    COSTS = ((2, 2, 2), (100, 1, 1), (1, 100, 100), (3, 2, 1), (3, 1, 2))
-
-    def test_from_every_base(self):
-        for rows in self.GATHERINGS:
-            for three in self.COSTS:
-                for u in range(len(rows)):
-                    self.check(u, rows, three)
-
-    def check(self, u, rows, three):
-        ahead = [costs(*three)] + copies(*rows)
-        places = places_told(last(*ahead, apparatus(u)))
-        calls = []
-        for v in range(len(rows)):
-            calls.append(chosen(u, *[self.number(place, v) for place in places]))
-        self.assertEqual(ask(*ahead, *calls)[len(ahead):], [[len(row)] + list(row) for row in rows])
-
-    def number(self, place, v):
-        found = [number for number, reading in enumerate(place[2]) if v in reading[1]]
-        self.assertEqual(len(found), 1)
-        return found[0]
+    def test_by_the_readings_that_apparatus_tells(self):
+        for u, rows, ahead in each_base():
+            places = places_told(last(*ahead, apparatus(u)))
+            calls = [chosen(u, *[number_of(place, v) for place in places]) for v in range(len(rows))]
+            self.assertEqual(ask(*ahead, *calls)[len(ahead):], [[len(row)] + list(row) for row in rows])
 
 
 class Refusals(unittest.TestCase):
